@@ -3,7 +3,7 @@
 from somewayall.graph_calls import Desk, answer_call
 
 # By the number of a call: how many whole numbers it has, and how many rows behind them.
-FORMS = ((0, 2), (2, 0), (2, 0), (2, 0), (0, 1), (1, 1))
+FORMS = ((0, 2), (2, 0), (2, 0), (2, 0), (0, 1), (1, 1), (1, 1), (0, 0), (0, 0), (2, 0), (0, 0))
 
 
 class Reader:

@@ -1,14 +1,18 @@
 """What each call answers: a list of whole numbers, or of one number alone if it refuses."""
 
+from somewayall.alike import classes_of, graph_of_classes
 from somewayall.formulas import parts_of
-from somewayall.graphs import add_edge, are_marks, cut_edge, graph_of, has_edge, has_state, is_graph
+from somewayall.graphs import add_edge, are_marks, cut_edge, ends_of, graph_of, has_edge, is_graph
+from somewayall.graphs import has_state, has_states
 from somewayall.holding import where_each_holds
-from somewayall.ways import can_be_shown, way_that_shows
+from somewayall.telling import what_tells
+from somewayall.ways import NOT_REACHED, can_be_shown, fewest_steps, way_that_shows
 
 WRONG = -1
 UNFIT = -3
 NO_STATE = -4
 NOT_SO = -5
+TOO_LONG = -6
 NO_GRAPH = -9
 
 GRAPH = 0
@@ -16,6 +20,11 @@ EDGE = 1
 CUT = 2
 MARK = 3
 HOLDS = 4
+SHOWS = 5
+FAR = 6
+ALIKE = 7
+SMALL = 8
+TELLS = 9
 
 
 class Desk:
@@ -39,7 +48,17 @@ def answer_call(desk, call, numbers, rows):
         return answer_mark(desk.graph, numbers[0], numbers[1])
     if call == HOLDS:
         return answer_holds(desk.graph, rows[0])
-    return answer_shows(desk.graph, numbers[0], rows[0])
+    if call == SHOWS:
+        return answer_shows(desk.graph, numbers[0], rows[0])
+    if call == FAR:
+        return answer_far(desk.graph, numbers[0], rows[0])
+    if call == ALIKE:
+        return answer_alike(desk.graph)
+    if call == SMALL:
+        return told_graph(graph_of_classes(desk.graph))
+    if call == TELLS:
+        return answer_tells(desk.graph, numbers[0], numbers[1])
+    return told_graph(desk.graph)
 
 
 def answer_graph(desk, marks, ends):
@@ -50,7 +69,7 @@ def answer_graph(desk, marks, ends):
 
 
 def answer_edge(graph, s, t):
-    if not has_state(graph, s) or not has_state(graph, t):
+    if not has_states(graph, s, t):
         return [NO_STATE]
     if has_edge(graph, s, t):
         return [UNFIT]
@@ -59,7 +78,7 @@ def answer_edge(graph, s, t):
 
 
 def answer_cut(graph, s, t):
-    if not has_state(graph, s) or not has_state(graph, t):
+    if not has_states(graph, s, t):
         return [NO_STATE]
     if not has_edge(graph, s, t):
         return [UNFIT]
@@ -82,8 +101,7 @@ def answer_holds(graph, formula):
     if parts is None:
         return [WRONG]
     held = where_each_holds(graph, parts)[0]
-    states = [s for s, here in enumerate(held) if here]
-    return [len(states)] + with_length(states)
+    return counted([s for s, here in enumerate(held) if here])
 
 
 def answer_shows(graph, s, formula):
@@ -96,8 +114,42 @@ def answer_shows(graph, s, formula):
         return [NOT_SO]
     if not can_be_shown(parts):
         return [UNFIT]
-    way = way_that_shows(graph, s, parts)
-    return [len(way)] + with_length(way)
+    return counted(way_that_shows(graph, s, parts))
+
+
+def answer_far(graph, s, formula):
+    if not has_state(graph, s):
+        return [NO_STATE]
+    parts = parts_of(formula)
+    if parts is None:
+        return [WRONG]
+    steps = fewest_steps(graph, s, parts)
+    return [NOT_SO] if steps == NOT_REACHED else [steps]
+
+
+def answer_alike(graph):
+    classes = classes_of(graph)
+    return [len(set(classes))] + with_length(classes)
+
+
+def answer_tells(graph, s, t):
+    if not has_states(graph, s, t):
+        return [NO_STATE]
+    classes = classes_of(graph)
+    if classes[s] == classes[t]:
+        return [NOT_SO]
+    told = what_tells(graph, s, t)
+    return [TOO_LONG] if told is None else counted(told)
+
+
+def told_graph(graph):
+    """How many states; then their marks, and the ends of the edges."""
+    return [len(graph.marks)] + with_length(graph.marks) + with_length(ends_of(graph))
+
+
+def counted(row):
+    """How many there are, as a number that is answered; then the row, as a list that is answered."""
+    return [len(row)] + with_length(row)
 
 
 def with_length(row):

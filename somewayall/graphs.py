@@ -24,6 +24,10 @@ def are_marks(number):
     return number < MARKS_END
 
 
+def has_mark(marks, mark):
+    return (marks >> mark) & 1 == 1
+
+
 def graph_of(marks, ends):
     """The graph of what is_graph has found to be one."""
     graph = Graph(list(marks), [[] for number in marks])
@@ -37,6 +41,10 @@ def has_state(graph, s):
     return s < len(graph.marks)
 
 
+def has_states(graph, s, t):
+    return has_state(graph, s) and has_state(graph, t)
+
+
 def has_edge(graph, s, t):
     return t in graph.targets[s]
 
@@ -47,6 +55,15 @@ def add_edge(graph, s, t):
 
 def cut_edge(graph, s, t):
     graph.targets[s] = [u for u in graph.targets[s] if u != t]
+
+
+def ends_of(graph):
+    """The ends of the edges (from, to, from, to ..), by from, then to, rising."""
+    ends = []
+    for s, targets in enumerate(graph.targets):
+        for t in targets:
+            ends.extend([s, t])
+    return ends
 
 
 def ways_on(graph):

@@ -2,7 +2,7 @@
 
 from somewayall.formulas import ALWAYS, MARKED, NOT, BOTH, EITHER, SOME_NEXT, ALL_NEXT, SOME_KEEPS, ALL_KEEP
 from somewayall.formulas import SOME_COMES, ALL_COME, SOME_UNTIL, BEHIND
-from somewayall.graphs import ways_on
+from somewayall.graphs import has_mark, ways_on
 
 
 def where_each_holds(graph, parts):
@@ -23,7 +23,7 @@ def where_one_holds(graph, number, mark, behind):
     if number == ALWAYS:
         return everywhere(graph.marks)
     if number == MARKED:
-        return [(marks >> mark) & 1 == 1 for marks in graph.marks]
+        return [has_mark(marks, mark) for marks in graph.marks]
     if number == NOT:
         return negated(behind[0])
     if number == BOTH:

@@ -1,4 +1,4 @@
-"""Ways that show that a formula holds."""
+"""Ways that show that a formula holds, and how far it is to where one holds."""
 
 from somewayall.formulas import SOME_NEXT, SOME_KEEPS, SOME_COMES, SOME_UNTIL
 from somewayall.graphs import ways_on
@@ -48,6 +48,12 @@ def shortest_way(onward, s, before, goal):
         nearer = [steps[t] == left for t in range(len(onward))]
         way.append(least_next(onward, way[-1], nearer))
     return way
+
+
+def fewest_steps(graph, s, parts):
+    """From s to a state where the formula holds, or NOT_REACHED."""
+    onward = ways_on(graph)
+    return steps_to(onward, everywhere(onward), where_each_holds(graph, parts)[0])[s]
 
 
 def steps_to(onward, before, goal):

@@ -36,6 +36,26 @@ def shows(s, f):
     return [5, s, len(f), *f]
 
 
+def far(s, f):
+    return [6, s, len(f), *f]
+
+
+def alike():
+    return [7]
+
+
+def small():
+    return [8]
+
+
+def tells(s, t):
+    return [9, s, t]
+
+
+def told():
+    return [10]
+
+
 def laid(calls):
     return [number for call in calls for number in call]
 
@@ -67,6 +87,26 @@ def listed(row):
     return [len(row), len(row), *row]
 
 
+def classed(row):
+    """What alike answers where these are the classes of the states."""
+    return [len(set(row)), len(row), *row]
+
+
+def laid_graph(m, e=()):
+    """What small and told answer of a graph."""
+    return [len(m), len(m), *m, len(e), *e]
+
+
+def call_of(row):
+    """The call graph that hands in again what small or told has answered."""
+    return [0, *row[1:]]
+
+
+def row_of(n):
+    """The edges along n states: 0 to 1, 1 to 2 .."""
+    return [number for s in range(n - 1) for number in (s, s + 1)]
+
+
 def look(n):
     """Calls that tell all marks and all edges of a graph of n states (and spoil it)."""
     return [mark(s, 0) for s in range(n)] + [cut(s, t) for s in range(n) for t in range(n)]
@@ -89,6 +129,13 @@ def tree_of(numbers):
     tree, at = tree_at(numbers, 0)
     if at != len(numbers):
         raise NoFormula
+    return tree
+
+
+def whole_tree(numbers):
+    """The same without a limit to its length."""
+    tree, at = tree_at(numbers, 0)
+    assert at == len(numbers), numbers
     return tree
 
 
@@ -212,11 +259,19 @@ class Reference:
             before = self.marks[s]
             self.marks[s] = m
             return [before]
-        return self.answer_formula(call, n)
+        if call[0] in (4, 5, 6):
+            return self.answer_formula(call, n)
+        if call[0] == 7:
+            return classed(self.classes())
+        if call[0] == 8:
+            return laid_graph(*self.of_classes())
+        if call[0] == 9:
+            return self.answer_tells(call[1], call[2], n)
+        return laid_graph(self.marks, [number for pair in sorted(self.edges) for number in pair])
 
     def answer_formula(self, call, n):
         f = call[2:] if call[0] == 4 else call[3:]
-        if call[0] == 5 and call[1] >= n:
+        if call[0] != 4 and call[1] >= n:
             return [-4]
         try:
             tree = tree_of(f)
@@ -225,11 +280,80 @@ class Reference:
         where = self.where(tree)
         if call[0] == 4:
             return listed(sorted(where))
+        if call[0] == 6:
+            return [self.steps(call[1], where)]
         if call[1] not in where:
             return [-5]
         if tree[0] not in (5, 7, 9, 11):
             return [-3]
         return listed(self.shown(call[1], tree))
+
+    def steps(self, s, where):
+        there = {s}
+        for count in range(len(self.marks)):
+            if there & where:
+                return count
+            there = {u for t in there for u in self.on(t)}
+        return -5
+
+    def parted(self):
+        """Of each two states that are not alike the round that parts them first."""
+        states = range(len(self.marks))
+        first = {(s, t): 0 for s in states for t in states if self.marks[s] != self.marks[t]}
+        for number in itertools.count(1):
+            # One goes on to a class to which the other goes on to none: all these were parted in a round before.
+            new = [(s, t) for s in states for t in states if (s, t) not in first
+                   and (any(all((u, v) in first for v in self.on(t)) for u in self.on(s))
+                        or any(all((u, v) in first for v in self.on(s)) for u in self.on(t)))]
+            if not new:
+                return first
+            first.update({pair: number for pair in new})
+
+    def classes(self):
+        first = self.parted()
+        return [min(t for t in range(s + 1) if (s, t) not in first) for s in range(len(self.marks))]
+
+    def of_classes(self):
+        classes = self.classes()
+        order = sorted(set(classes))
+        pairs = {(classes[s], classes[t]) for s in range(len(classes)) for t in self.on(s)}
+        return ([self.marks[s] for s in order],
+                [number for s, t in sorted(pairs) for number in (order.index(s), order.index(t))])
+
+    def told_by(self, first, s, t):
+        """What tells s from t: how it begins, and of which two states what is joined behind that."""
+        if first[s, t] == 0:
+            mark = min(m for m in range(8) if (self.marks[s] ^ self.marks[t]) >> m & 1)
+            return [1, mark] if self.marks[s] >> mark & 1 else [2, 1, mark], []
+        before = {pair for pair in first if first[pair] < first[s, t]}
+        for head, a, b in (([5], s, t), ([2, 5], t, s)):
+            for u in self.on(a):
+                if all((u, v) in before for v in self.on(b)):
+                    return head, [(u, v) for v in self.on(b)]
+
+    def told_length(self, first, s, t, known):
+        if (s, t) not in known:
+            head, pairs = self.told_by(first, s, t)
+            lengths = [self.told_length(first, u, v, known) for u, v in pairs]
+            known[s, t] = len(head) + max(len(pairs) - 1, 0) + sum(lengths)
+        return known[s, t]
+
+    def told_list(self, first, s, t):
+        head, pairs = self.told_by(first, s, t)
+        lists = [self.told_list(first, u, v) for u, v in pairs]
+        while len(lists) > 1:
+            lists[-2:] = [[3] + lists[-2] + lists[-1]]
+        return head + (lists[0] if lists else [])
+
+    def answer_tells(self, s, t, n):
+        if s >= n or t >= n:
+            return [-4]
+        first = self.parted()
+        if (s, t) not in first:
+            return [-5]
+        if self.told_length(first, s, t, {}) > 400:
+            return [-6]
+        return listed(self.told_list(first, s, t))
 
 
 def expected(*calls):
@@ -242,6 +366,24 @@ def all_edge_sets(n):
     pairs = list(itertools.product(range(n), repeat=2))
     for chosen in itertools.product((False, True), repeat=len(pairs)):
         yield [number for pair, there in zip(pairs, chosen) if there for number in pair]
+
+
+def some_graph(source, most=6):
+    """Marks and edges of a graph in which, now and then, some are alike: they stand for states of a lesser one."""
+    n = source.randrange(1, most + 1)
+    lesser = source.randrange(1, n + 1)
+    marks = [source.randrange(4) for k in range(lesser)]
+    leads = [source.sample(range(lesser), source.randrange(min(lesser, 3) + 1)) for k in range(lesser)]
+    stands = list(range(lesser)) + [source.randrange(lesser) for k in range(n - lesser)]
+    source.shuffle(stands)
+    edges = []
+    for s, k in enumerate(stands):
+        # One stays where there is no edge: that comes to the same as edges to alike ones alone.
+        for goal in source.choice(([], [k])) if leads[k] in ([], [k]) else leads[k]:
+            among = [t for t in range(n) if stands[t] == goal]
+            for t in source.sample(among, source.randrange(1, len(among) + 1)):
+                edges += [s, t]
+    return [marks[k] for k in stands], edges
 
 
 def some_tree(source, depth, marks=2):

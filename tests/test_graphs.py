@@ -2,7 +2,8 @@
 
 import unittest
 
-from helper import TOP, cut, edge, graph, holds, last, listed, look, mark, run, shows, state_after
+from helper import (TOP, alike, cut, edge, far, graph, holds, last, listed, look, mark, run, shows, small, state_after,
+                    tells, told)
 
 MARKS = [1, 2, 4, 8]
 EDGES = [0, 1, 1, 2, 2, 2, 0, 3]
@@ -62,12 +63,15 @@ class GraphCall(unittest.TestCase):
 
 class WithoutGraph(unittest.TestCase):
     def test_all_but_graph_is_refused(self):
-        for call in (edge(0, 0), cut(0, 0), mark(0, 0), holds([0]), shows(0, [9, 0])):
+        for call in (edge(0, 0), cut(0, 0), mark(0, 0), holds([0]), shows(0, [9, 0]), far(0, [0]), alike(), small(),
+                     tells(0, 1), told()):
             self.assertEqual(run(call), [[-9]])
+            self.assertEqual(run(graph([256]), call, graph([1])), [[-1], [-9], [1]])
 
     def test_it_comes_ahead_of_all_else(self):
         for call in (edge(TOP, 0), cut(0, TOP), mark(TOP, TOP), holds([]), holds([13]), holds([2] * 100),
-                     shows(TOP, []), shows(0, [0])):
+                     shows(TOP, []), shows(0, [0]), far(TOP, [0]), far(0, []), far(0, [2, 0]), tells(TOP, 0),
+                     tells(0, 0)):
             self.assertEqual(run(call, graph([0])), [[-9], [1]])
 
 

@@ -168,6 +168,23 @@ class Forms(unittest.TestCase):
                 first = isinstance(above, ast.Call) and getattr(above.func, "id", "") in WALKS
                 self.assertTrue(walked or first and above.args[0] is node, where)
 
+    def test_sets_are_not_kept(self):
+        for where, node, above in nodes():
+            if isinstance(node, ast.Call) and getattr(node.func, "id", "") in ("set", "frozenset"):
+                within = isinstance(above, ast.Call) and getattr(above.func, "id", "") in ("sorted", "len")
+                self.assertTrue(within and not above.keywords or isinstance(above, (ast.Compare, ast.BinOp)), where)
+
+    def test_no_local_is_called_like_a_class_or_an_import_of_its_file(self):
+        for path in files():
+            tree = ast.parse(path.read_text())
+            taken = {name.name for node in tree.body if isinstance(node, ast.ImportFrom) for name in node.names}
+            taken |= {node.name for node in tree.body if isinstance(node, ast.ClassDef)}
+            for node in ast.walk(tree):
+                if isinstance(node, ast.Name) and isinstance(node.ctx, ast.Store):
+                    self.assertNotIn(node.id, taken, (path, node.lineno))
+                if isinstance(node, ast.arg):
+                    self.assertNotIn(node.arg, taken, (path, node.lineno))
+
 
 if __name__ == "__main__":
     unittest.main()
